@@ -1,1 +1,1 @@
-"""Grammars as they come: whether a text is said, and in how many ways."""
+"""Grammars as they come: whether a text is said, in how many ways, the k-th way, what may stand next."""

@@ -3,6 +3,8 @@
 INIT = 0
 RULE = 1
 COUNT = 2
+WAY = 3
+NEXT = 4
 
 # For each of the six calls, by its number: how many whole numbers it has, and how many rows.
 FORMS = ((0, 0), (1, 1), (1, 1), (2, 1), (1, 1), (1, 0))

@@ -37,6 +37,12 @@ class Rules:
     def bodies_of(self, thing):
         return [body for head, body in self.taken if head == thing]
 
+    def numbers_of(self, thing):
+        return [number for number, rule in enumerate(self.taken) if rule[0] == thing]
+
+    def body_of(self, number):
+        return self.taken[number][1]
+
     # For each thing the things that it has alone as a body: the only steps that use up no text.
     def lone_steps(self):
         steps = [[] for thing in range(THINGS)]

@@ -60,13 +60,17 @@ class WayCounts:
         return total
 
     # What is more than the most stays so in every sum and product, so nothing is lost by stopping there.
+    # It stops one above the most, since the most is a way's place too, counted from 0.
     def keep(self, row, start, end, ways):
         if ways > 0:
-            self.ends[row][start][end] = min(ways, MOST_WAYS)
+            self.ends[row][start][end] = min(ways, MOST_WAYS + 1)
 
     def ways_of(self, row, start, end):
         return self.ends[row][start].get(end, 0)
 
+    def ends_from(self, row, start):
+        return list(self.ends[row][start])
+
 
 def count_ways(rules, thing, text):
-    return WayCounts(rules, text).ways_of((thing,), 0, len(text))
+    return min(WayCounts(rules, text).ways_of((thing,), 0, len(text)), MOST_WAYS)

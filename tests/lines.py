@@ -14,6 +14,18 @@ def count(thing, *text):
     return [2, thing, len(text), *text]
 
 
+def way(thing, k, *text):
+    return [3, thing, k, len(text), *text]
+
+
+def following(thing, *text):
+    return [4, thing, len(text), *text]
+
+
+def least(thing):
+    return [5, thing]
+
+
 def letters(word):
     return [ord(letter) for letter in word]
 
@@ -38,3 +50,12 @@ def told(*calls):
 
 def last(*calls):
     return told(*calls)[-1]
+
+
+def asked_in_turn(rules, asked):
+    """The answers to as many questions as one likes, in lines of 60 calls at most that begin with the same rules."""
+    room = 60 - len(rules)
+    found = []
+    for first in range(0, len(asked), room):
+        found.extend(told(*rules, *asked[first:first + room])[len(rules):])
+    return found

@@ -2,7 +2,7 @@
 
 import unittest
 
-from tests.lines import INIT, count, last, rule, told
+from tests.lines import INIT, count, following, last, least, rule, told, way
 
 
 class InitTest(unittest.TestCase):
@@ -31,3 +31,9 @@ class InitTest(unittest.TestCase):
     def test_a_grammar_is_without_rules_at_first(self):
         self.assertEqual(told(count(0, 97)), [[0, 0]])
         self.assertEqual(told(rule(5, 97)), [[0]])
+
+    def test_no_rules_for_any_question_behind_it(self):
+        asked = (count(0, 97), way(0, 0, 97), following(0), least(0))
+        self.assertEqual(told(rule(0, 97), *asked, INIT, *asked, rule(0, 97, 97), *asked),
+                         [[0], [1, 1], [1, 0], [1, 97], [1], [0], [0, 0], [-1], [0], [0],
+                          [0], [0, 0], [-1], [1, 97], [2]])

@@ -4,10 +4,11 @@ import unittest
 from random import Random
 
 from saidways.grammar import answers
-from tests.lines import INIT, count, join, rule, split
+from tests.lines import INIT, MOST_WAYS, count, following, join, least, rule, split, way
 from tests.reference import Reference
 
 EDGES = (-2147483648, -1, 32, 33, 2147483647)
+MOST_WAYS_ASKED = 3000
 
 
 def any_thing(dice, things):
@@ -16,7 +17,7 @@ def any_thing(dice, things):
 
 def any_body(dice, things, letters):
     size = dice.choice((0, 9, 20)) if dice.random() < 0.04 else dice.choice((1, 1, 1, 2, 2, 2, 3, 3, 4, 8))
-    return [dice.randrange(things) if dice.random() < 0.6 else dice.randrange(32, 32 + letters) for sign in range(size)]
+    return [dice.randrange(things) if dice.random() < 0.5 else dice.randrange(32, 32 + letters) for sign in range(size)]
 
 
 def any_text(dice, letters):
@@ -27,38 +28,83 @@ def any_text(dice, letters):
     return text
 
 
-def any_line(dice):
-    things = dice.choice((1, 2, 3, 5, 32))
+def any_place(dice, ways):
+    return dice.choice((0, ways, MOST_WAYS)) if ways == 0 or dice.random() < 0.2 else dice.randrange(ways)
+
+
+def any_question(dice, reference, things, letters):
+    """A call that asks; way only where there are no more ways than may be asked for."""
+    thing = any_thing(dice, things)
+    text = any_text(dice, letters)
+    name = dice.choice(("count", "way", "way", "next", "next", "least"))
+    if name == "least":
+        return (name, thing)
+    if name == "way":
+        ways = reference.count(thing, text)[-1]
+        if ways <= MOST_WAYS_ASKED:
+            return (name, thing, any_place(dice, max(ways, 0)), text)
+        name = "count"
+    return (name, thing, text)
+
+
+def any_line(dice, size):
+    """The calls of a line, and what the reference answers to each."""
+    things = dice.choice((1, 2, 3, 4, 5, 8, 32))
     letters = dice.choice((1, 1, 2, 3))
     rules_of_ten = dice.choice((3, 5, 8))
+    reference = Reference()
     calls = []
-    for place in range(dice.randrange(1, 61)):
+    expected = []
+    for place in range(size):
         if dice.random() < 0.01:
-            calls.append(("init",))
+            call = ("init",)
         elif dice.randrange(10) < rules_of_ten:
-            calls.append(("rule", any_thing(dice, things), any_body(dice, things, letters)))
+            call = ("rule", any_thing(dice, things), any_body(dice, things, letters))
         else:
-            calls.append(("count", any_thing(dice, things), any_text(dice, letters)))
-    return calls
+            call = any_question(dice, reference, things, letters)
+        calls.append(call)
+        expected.append(getattr(reference, call[0])(*call[1:]))
+    return calls, expected
 
 
 def written(call):
-    if call[0] == "init":
+    name, *numbers = call
+    if name == "init":
         return INIT
-    return (rule if call[0] == "rule" else count)(call[1], *call[2])
-
-
-def reference_answers(calls):
-    reference = Reference()
-    return [getattr(reference, call[0])(*call[1:]) for call in calls]
+    if name == "least":
+        return least(*numbers)
+    row = numbers.pop()
+    return {"rule": rule, "count": count, "way": way, "next": following}[name](*numbers, *row)
 
 
 class ReferenceTest(unittest.TestCase):
-    def test_many_lines(self):
-        said = 0
-        for seed in range(1500):
-            calls = any_line(Random(seed))
-            given = split(answers(join(written(call) for call in calls)))
-            self.assertEqual(given, reference_answers(calls), (seed, calls))
-            said += sum(answer[0] == 1 and len(answer) == 2 for answer in given)
-        self.assertGreater(said, 2000)
+    def setUp(self):
+        # How often each call was answered by more than a refusal or a zero.
+        self.answered = dict.fromkeys(("init", "rule", "count", "way", "next", "least"), 0)
+
+    def hold(self, seed, calls, expected):
+        line = join(written(call) for call in calls)
+        copied = list(line)
+        first = answers(line)
+        self.assertEqual(split(first), expected, (seed, calls))
+        self.assertEqual(line, copied, seed)
+        self.assertEqual(answers(line), first, seed)
+        for call, answer in zip(calls, expected):
+            self.answered[call[0]] += answer[0] > 0
+
+    def assert_answered(self, count_of, way_of, next_of, least_of):
+        self.assertGreater(self.answered["count"], count_of)
+        self.assertGreater(self.answered["way"], way_of)
+        self.assertGreater(self.answered["next"], next_of)
+        self.assertGreater(self.answered["least"], least_of)
+
+    def test_lines_of_sixty(self):
+        for seed in range(250):
+            self.hold(seed, *any_line(Random(seed), 60))
+        self.assert_answered(250, 250, 500, 400)
+
+    def test_lines_of_any_size(self):
+        for seed in range(1000, 1300):
+            dice = Random(seed)
+            self.hold(seed, *any_line(dice, dice.randrange(1, 61)))
+        self.assert_answered(80, 80, 200, 180)
